@@ -1,0 +1,1 @@
+"""Edgelink: serial links that are synchronized by edges, and chains of relays."""
