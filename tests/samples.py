@@ -28,3 +28,16 @@ def some_bytes(seed, size):
     """Return bytes, always the same for a seed."""
     random = Random(seed)
     return [random.randrange(256) for _ in range(size)]
+
+
+def stuffed(limit, bits):
+    """Stuff bits one by one, as point 8 tells it."""
+    found = ""
+    run = 0
+    for bit in bits:
+        found += bit
+        run = run + 1 if bit == "1" else 0
+        if run == limit:
+            found += "0"
+            run = 0
+    return found

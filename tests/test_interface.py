@@ -13,6 +13,24 @@ FUNCTIONS = {
     "stuffing": {
         "stuff": "limit bits", "unstuff": "limit bits", "greatest_stuffing": "limit count", "run_of_ones": "bits",
     },
+    "frames": {
+        "frame_bits": "limit payload", "gaps_of": "bits", "read_gaps": "limit gaps", "frame_gaps": "limit payload",
+        "zeros_of": "bits",
+    },
+    "counts": {
+        "zeros_in": "limit payload", "counts": "limit size", "payload_at": "limit size zeros index",
+        "index_of": "limit payload", "mean_stuffing": "limit size", "length_bounds": "limit size",
+        "payloads_by_length": "limit size length",
+    },
+    "signals": {
+        "signal_of": "bits start bit_time shifts", "bits_between": "signal bit_time", "merged": "one two",
+        "level_at": "signal time",
+    },
+    "receivers": {
+        "detection_polls": "receiver phase signal", "gap_bits": "receiver polls",
+        "received_gaps": "receiver phase signal", "receive": "limit receiver phase signal",
+        "detection_time": "receiver phase number",
+    },
 }
 
 CLASSES = {

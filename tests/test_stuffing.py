@@ -3,20 +3,7 @@
 import unittest
 
 from edgelink.stuffing import greatest_stuffing, run_of_ones, stuff, unstuff
-from samples import LIMITS, all_bits, all_bits_to, some_bits
-
-
-def stuffed(limit, bits):
-    """Stuff bits one by one, as point 8 tells it."""
-    found = ""
-    run = 0
-    for bit in bits:
-        found += bit
-        run = run + 1 if bit == "1" else 0
-        if run == limit:
-            found += "0"
-            run = 0
-    return found
+from samples import LIMITS, all_bits, all_bits_to, some_bits, stuffed
 
 
 class StuffTest(unittest.TestCase):

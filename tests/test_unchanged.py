@@ -3,7 +3,7 @@
 import unittest
 from copy import deepcopy
 
-from edgelink import bits, checks, stuffing
+from edgelink import bits, checks, counts, errors, frames, receivers, signals, stuffing
 
 # Each call of the interface that has landed: a function, and arguments for it.
 CALLS = [
@@ -21,6 +21,30 @@ CALLS = [
     (stuffing.unstuff, (2, "1100110")),
     (stuffing.greatest_stuffing, (3, 10)),
     (stuffing.run_of_ones, ("0110111",)),
+    (frames.frame_bits, (2, "0110")),
+    (frames.gaps_of, ("0110010",)),
+    (frames.read_gaps, (2, [4, 2, 1, 4])),
+    (frames.frame_gaps, (2, "11")),
+    (frames.zeros_of, ("0110010",)),
+    (counts.zeros_in, (2, "1101")),
+    (counts.counts, (2, 0)),
+    (counts.counts, (2, 5)),
+    (counts.payload_at, (2, 5, 1, 3)),
+    (counts.index_of, (2, "01101")),
+    (counts.mean_stuffing, (2, 5)),
+    (counts.length_bounds, (2, 5)),
+    (counts.payloads_by_length, (2, 5, 16)),
+    (signals.signal_of, ("0100", 100, 10, (1, -1))),
+    (signals.bits_between, ([0, 12, 25], 10)),
+    (signals.merged, ([1, 5], [5, 7])),
+    (signals.merged, ([1, 5], [])),
+    (signals.merged, ([], [1, 5])),
+    (signals.level_at, ([1, 5], 3)),
+    (receivers.detection_polls, ((1, 3), 0, [1, 5])),
+    (receivers.gap_bits, ((20, 4), 7)),
+    (receivers.received_gaps, ((1, 3), 0, [1, 5, 9])),
+    (receivers.receive, (2, (1, 3), 0, [0, 12, 15, 27])),
+    (receivers.detection_time, ((20, 4), 3, 7)),
 ]
 
 
@@ -58,6 +82,11 @@ class UnchangedTest(unittest.TestCase):
                 if isinstance(argument, list):
                     argument.clear()
             self.assertEqual(found, kept, function.__name__)
+
+    def test_refused_arguments_stay_as_they_are(self):
+        shifts = [0, -30]
+        self.assertRaises(errors.Refused, signals.signal_of, "00", 100, 10, shifts)
+        self.assertEqual(shifts, [0, -30])
 
     def test_values_are_of_the_kinds_of_the_interface(self):
         for function, arguments in CALLS:
