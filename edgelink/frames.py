@@ -23,6 +23,14 @@ def distances(numbers):
     return [later - earlier for earlier, later in zip(numbers, numbers[1:])]
 
 
+def sums(numbers):
+    """Return 0, and the sums of the first number, of the first two, and so on."""
+    found = [0]
+    for number in numbers:
+        found.append(found[-1] + number)
+    return found
+
+
 def gaps_of(bits):
     """Return the distances of zeros that follow one another."""
     return distances(zeros_of(bits))

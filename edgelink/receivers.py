@@ -3,6 +3,11 @@
 from edgelink.frames import distances, read_gaps
 
 
+def ceiling(number, divisor):
+    """Return the quotient of two numbers, rounded up."""
+    return -(-number // divisor)
+
+
 def detection_time(receiver, phase, number):
     """Return the time of a poll."""
     poll, _ = receiver
@@ -12,7 +17,7 @@ def detection_time(receiver, phase, number):
 def poll_behind(receiver, phase, time):
     """Return the number of the first poll that is not before a time."""
     poll, _ = receiver
-    return max(0, -((phase - time) // poll))
+    return max(0, ceiling(time - phase, poll))
 
 
 def detection_polls(receiver, phase, signal):
@@ -32,7 +37,13 @@ def gap_bits(receiver, polls):
     """Return the number of bits as which a distance of so many polls is read."""
     _, polls_per_bit = receiver
     # The least number of bits whose upper bound is not below the distance.
-    return -((polls_per_bit - 2 * polls) // (2 * polls_per_bit))
+    return ceiling(2 * polls - polls_per_bit, 2 * polls_per_bit)
+
+
+def most_polls(receiver, bits):
+    """Return the greatest distance, in polls, that is read as no more than so many bits."""
+    _, polls_per_bit = receiver
+    return (2 * bits + 1) * polls_per_bit // 2
 
 
 def received_gaps(receiver, phase, signal):

@@ -6,9 +6,14 @@ from edgelink.frames import distances, zeros_of
 
 def signal_of(bits, start, bit_time, shifts):
     """Return the signal of bits: an edge, shifted, at the beginning of each zero."""
+    return signal_at(zeros_of(bits), start, bit_time, shifts)
+
+
+def signal_at(places, start, bit_time, shifts):
+    """Return the signal with an edge, shifted, at the beginning of the bit at each place."""
     signal = []
     before = -1  # The first edge may be at time 0, but not before it.
-    for edge, place in enumerate(zeros_of(bits)):
+    for edge, place in enumerate(places):
         time = start + place * bit_time + shift_of(shifts, edge)
         if time <= before:
             raise Refused("edges out of order")

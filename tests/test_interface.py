@@ -31,6 +31,19 @@ FUNCTIONS = {
         "received_gaps": "receiver phase signal", "receive": "limit receiver phase signal",
         "detection_time": "receiver phase number",
     },
+    "traces": {"read_trace": "text", "write_trace": "limit receiver phase signal"},
+    "tolerance": {
+        "margin": "hop gap", "margins": "limit hop", "is_safe": "limit hop", "safe_bit_times": "limit receiver jitter",
+        "greatest_jitter": "limit hop", "longest_gap": "hop", "misreading": "limit hop",
+    },
+    "relays": {
+        "relay_signal": "receiver phase delay bit_time shifts signal", "least_delay": "limit payload_most hop later",
+        "buffer_depth": "limit payload_most hop later delay", "backlogs": "receiver phase delay bit_time signal",
+    },
+    "chains": {
+        "least_delays": "limit payload_most hops", "chain_fault": "chain", "transmit": "chain payload plays",
+        "failure": "chain",
+    },
 }
 
 CLASSES = {

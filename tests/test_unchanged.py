@@ -3,7 +3,14 @@
 import unittest
 from copy import deepcopy
 
-from edgelink import bits, checks, counts, errors, frames, receivers, signals, stuffing
+from edgelink import (
+    bits, chains, checks, counts, errors, frames, receivers, relays, signals, stuffing, tolerance, traces,
+)
+
+SAFE = (80, 85, 10, 20, 4)
+UNSAFE = (80, 86, 10, 20, 4)
+CHAIN = (2, 2, (SAFE, SAFE), (1000,))
+LATE = (2, 2, (SAFE, SAFE), (0,))
 
 # Each call of the interface that has landed: a function, and arguments for it.
 CALLS = [
@@ -45,6 +52,28 @@ CALLS = [
     (receivers.received_gaps, ((1, 3), 0, [1, 5, 9])),
     (receivers.receive, (2, (1, 3), 0, [0, 12, 15, 27])),
     (receivers.detection_time, ((20, 4), 3, 7)),
+    (traces.read_trace, ("trace 2 20 4 3\nedge 5\nedge 80",)),
+    (traces.write_trace, (2, (20, 4), 3, [5, 80])),
+    (tolerance.margin, (SAFE, 3)),
+    (tolerance.margins, (2, SAFE)),
+    (tolerance.is_safe, (2, SAFE)),
+    (tolerance.safe_bit_times, (2, (20, 4), 10)),
+    (tolerance.greatest_jitter, (2, SAFE)),
+    (tolerance.longest_gap, (SAFE,)),
+    (tolerance.misreading, (2, SAFE)),
+    (tolerance.misreading, (2, UNSAFE)),
+    (relays.relay_signal, ((10, 4), 0, 100, 50, (1, -1), [30, 70, 150])),
+    (relays.relay_signal, ((10, 4), 0, 0, 10, (), [30, 70, 150])),
+    (relays.relay_signal, ((10, 4), 0, 0, 10, (), [])),
+    (relays.least_delay, (2, 2, SAFE, UNSAFE)),
+    (relays.buffer_depth, (2, 2, SAFE, UNSAFE, 1000)),
+    (relays.backlogs, ((10, 4), 0, 100, 50, [30, 70, 150])),
+    (chains.least_delays, (2, 2, [SAFE, SAFE])),
+    (chains.chain_fault, (LATE,)),
+    (chains.transmit, (CHAIN, "01", [(80, (1, -1), 0), (85, (), 3)])),
+    (chains.transmit, (LATE, "01", [(80, (1, -1), 0), (85, (), 3)])),
+    (chains.failure, (LATE,)),
+    (chains.failure, (CHAIN,)),
 ]
 
 
@@ -87,6 +116,28 @@ class UnchangedTest(unittest.TestCase):
         shifts = [0, -30]
         self.assertRaises(errors.Refused, signals.signal_of, "00", 100, 10, shifts)
         self.assertEqual(shifts, [0, -30])
+        hops = [SAFE, UNSAFE]
+        self.assertRaises(errors.Refused, chains.least_delays, 2, 2, hops)
+        self.assertEqual(hops, [SAFE, UNSAFE])
+
+    def test_lists_within_what_is_returned_are_shared_with_nothing(self):
+        limit, receiver, phase, signal = traces.read_trace("trace 2 20 4 3\nedge 5")
+        signal.append(6)
+        self.assertEqual(traces.read_trace("trace 2 20 4 3\nedge 5")[3], [5])
+        plays = [(80, (), 0), (80, (), 0)]
+        sent, _, received = chains.transmit(CHAIN, "01", plays)
+        kept = deepcopy(sent)
+        sent[0].clear()
+        received.append("more")
+        self.assertEqual(sent[1], kept[1])
+        self.assertEqual(chains.transmit(CHAIN, "01", plays), (kept, None, ["01"]))
+        _, plays, _ = chains.failure(LATE)
+        kept = deepcopy(plays)
+        plays.clear()
+        self.assertEqual(chains.failure(LATE)[1], kept)
+        misread = tolerance.misreading(2, UNSAFE)
+        misread[4].append("more")
+        self.assertEqual(tolerance.misreading(2, UNSAFE)[4], [])
 
     def test_values_are_of_the_kinds_of_the_interface(self):
         for function, arguments in CALLS:
