@@ -44,6 +44,23 @@ FUNCTIONS = {
         "least_delays": "limit payload_most hops", "chain_fault": "chain", "transmit": "chain payload plays",
         "failure": "chain",
     },
+    "design": {
+        "receivers_for": "limit least greatest jitter", "slowest_receiver": "limit least greatest jitter",
+        "greatest_limit": "hop", "weakest": "limit hop", "total_delay": "limit payload_most hops",
+        "arrival": "chain payload", "spread": "chain payload",
+    },
+    "report": {"report": "chain"},
+    "clocks": {
+        "measured": "receiver phase polls bits jitter", "barring": "receiver phase polls bits jitter",
+        "explained": "receiver phase polls bits jitter bit_time",
+        "is_barred": "receiver phase polls bits jitter pairs",
+    },
+    "streams": {
+        "stream_bits": "limit payloads idles", "frame_places": "limit payloads idles",
+        "stream_signal": "limit payloads idles start bit_time shifts", "least_idle": "limit hop",
+        "runs_into": "limit idle", "frame_of_edge": "limit payloads idles", "untouched": "limit payloads idles edges",
+        "latest_start": "limit payloads idles hop most",
+    },
 }
 
 CLASSES = {

@@ -4,7 +4,8 @@ import unittest
 from copy import deepcopy
 
 from edgelink import (
-    bits, chains, checks, counts, errors, frames, receivers, relays, signals, stuffing, tolerance, traces,
+    bits, chains, checks, clocks, counts, design, errors, frames, receivers, relays, report, signals, streams, stuffing,
+    tolerance, traces,
 )
 
 SAFE = (80, 85, 10, 20, 4)
@@ -74,6 +75,29 @@ CALLS = [
     (chains.transmit, (LATE, "01", [(80, (1, -1), 0), (85, (), 3)])),
     (chains.failure, (LATE,)),
     (chains.failure, (CHAIN,)),
+    (design.receivers_for, (2, 80, 80, 15)),
+    (design.slowest_receiver, (2, 80, 80, 15)),
+    (design.greatest_limit, (SAFE,)),
+    (design.weakest, (2, SAFE)),
+    (design.total_delay, (2, 2, [SAFE, SAFE])),
+    (design.arrival, (CHAIN, "01")),
+    (design.spread, (CHAIN, "01")),
+    (report.report, (CHAIN,)),
+    (clocks.measured, ((20, 4), 0, [4, 8, 12], [1, 1], 3)),
+    (clocks.measured, ((20, 4), 0, [4, 8, 20], [1, 1], 0)),
+    (clocks.barring, ((20, 4), 0, [4, 8, 20], [1, 1], 0)),
+    (clocks.explained, ((20, 4), 0, [4, 8, 12], [1, 1], 3, 80)),
+    (clocks.is_barred, ((20, 4), 0, [4, 8, 20], [1, 1], 0, ((1, 2), (0, 1)))),
+    (streams.stream_bits, (2, ["", "01"], (3,))),
+    (streams.frame_places, (2, ["", "01"], (3,))),
+    (streams.frame_places, (2, [""], ())),
+    (streams.stream_signal, (2, ["", "01"], (3,), 100, 10, (1, -1))),
+    (streams.least_idle, (2, SAFE)),
+    (streams.runs_into, (2, 1)),
+    (streams.frame_of_edge, (2, ["", "01"], (3,))),
+    (streams.untouched, (2, ["", "01"], (3,), [5, 1])),
+    (streams.untouched, (2, ["", "01"], (3,), [])),
+    (streams.latest_start, (2, ["", "01"], (3,), SAFE, 5000)),
 ]
 
 
@@ -119,6 +143,9 @@ class UnchangedTest(unittest.TestCase):
         hops = [SAFE, UNSAFE]
         self.assertRaises(errors.Refused, chains.least_delays, 2, 2, hops)
         self.assertEqual(hops, [SAFE, UNSAFE])
+        polls, between = [8, 4], [0]
+        self.assertRaises(errors.Refused, clocks.measured, (20, 4), 0, polls, between, 0)
+        self.assertEqual((polls, between), ([8, 4], [0]))
 
     def test_lists_within_what_is_returned_are_shared_with_nothing(self):
         limit, receiver, phase, signal = traces.read_trace("trace 2 20 4 3\nedge 5")
