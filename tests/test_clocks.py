@@ -259,6 +259,11 @@ class IsBarredTest(unittest.TestCase):
         self.assertTrue(is_barred(*told, ((0, 1), (0, 1))))
         self.assertTrue(is_barred(*told, ((1, 2), (0, 1))))
 
+    def test_pair_that_lets_just_1(self):
+        told = ((20, 4), 0, [1, 2], [39], 0)
+        self.assertEqual(needs(*told), {(0, 1): (1, 1)})
+        self.assertFalse(is_barred(*told, ((0, 1), (0, 1))))
+
     def test_pairs_are_equal_in_what_they_require_and_let(self):
         # Each requires and lets just 4: these do not bar it.
         told = ((1, 4), 0, [4, 8, 12], [1, 1], 0)

@@ -55,6 +55,17 @@ def numbers_of_25(limit, payload_most, hop, later):
             for x in [limit + 2] + list(range(2 * limit + 5, 2 * limit + 5 + s + 1))]
 
 
+def numbers_of_26(limit, payload_most, hop, later, delay):
+    """Return the number that point 26 tells for each x."""
+    least, _, jitter, poll, _ = hop
+    s = payload_most + payload_most // limit
+    found = []
+    for x in [0, *range(limit + 2, limit + 4 + s), *range(2 * limit + 5, 2 * limit + 6 + s)]:
+        distance = (x * least - 2 * jitter) // poll * poll if x else 0
+        found.append(x + 1 - (0 if distance < delay else (distance - delay) // later[1] + 1))
+    return found
+
+
 def payload_to(limit, payload_most, size):
     """Return a payload whose stuffed bits are so many."""
     inserted = max(0, size - payload_most)
@@ -263,6 +274,16 @@ class BufferDepthTest(unittest.TestCase):
         self.told("hop is not safe", 2, 2, unsafe, hop, 100000)
         self.told("hop is not safe", 2, 2, unsafe, hop, 0)
         self.told("hop is not safe", 2, 2, unsafe, unsafe, 0)
+
+    def test_against_the_words_of_the_document(self):
+        random = Random(30)
+        for _ in range(300):
+            limit = random.choice(LIMITS)
+            hop, later = some_hop(random, limit, True), some_hop(random, limit, random.random() < 0.5)
+            payload_most = random.randint(limit, 24)
+            delay = least_delay(limit, payload_most, hop, later) + random.choice([0, 1, random.randrange(3000)])
+            self.assertEqual(buffer_depth(limit, payload_most, hop, later, delay),
+                             max(numbers_of_26(limit, payload_most, hop, later, delay)))
 
     def test_is_the_greatest_backlog_of_plays(self):
         random = Random(28)

@@ -179,6 +179,8 @@ class GreatestJitterTest(unittest.TestCase):
         self.assertEqual(greatest_jitter(2, (75, 90, 3, 20, 4)), 0)
         self.assertEqual(greatest_jitter(2, (74, 90, 3, 20, 4)), None)
         self.assertEqual(greatest_jitter(2, (75, 91, 0, 20, 4)), None)
+        self.assertEqual(margin((61, 61, 0, 3, 18), 4)[1], -1)
+        self.assertEqual(greatest_jitter(2, (61, 61, 0, 3, 18)), None)
 
 
 class LongestGapTest(unittest.TestCase):
@@ -190,6 +192,8 @@ class LongestGapTest(unittest.TestCase):
         self.assertEqual(longest_gap((80, 80, 11, 20, 4)), 0)
         self.assertEqual(longest_gap((59, 80, 0, 20, 4)), 0)
         self.assertEqual(longest_gap((80, 121, 0, 20, 4)), 0)
+        # Only longer gaps are read well.
+        self.assertEqual(longest_gap((81, 81, 11, 20, 4)), 0)
 
     def test_others(self):
         self.assertEqual(longest_gap((80, 85, 10, 20, 4)), 4)
@@ -233,6 +237,9 @@ class MisreadingTest(unittest.TestCase):
     def test_gap_of_the_limit_and_2_late(self):
         # The edges are 2000 - 10, 2344 + 10, ..
         self.assertEqual(misreading(2, (85, 86, 10, 20, 4)), (4, 86, (-10, 10, 0, 0), 10, []))
+        # An early margin of 0 is not negative.
+        self.assertEqual(margin((80, 86, 10, 20, 4), 4), (0, -4))
+        self.assertEqual(misreading(2, (80, 86, 10, 20, 4)), (4, 86, (-10, 10, 0, 0), 10, []))
 
     def test_early_is_told_before_late(self):
         self.assertEqual(misreading(2, (59, 125, 0, 20, 4))[:2], (1, 59))
