@@ -94,8 +94,9 @@ class IsSafeTest(unittest.TestCase):
                 _, _, jitter, poll, polls_per_bit = hop
                 least, greatest = safe_bit_times(limit, (poll, polls_per_bit), jitter)
                 for low, high in [(least, greatest), (least, least), (greatest, greatest), (least - 1, greatest),
-                                  (least, greatest + 1), (least - 1, greatest + 1), (least + 1, max(least + 1, greatest)),
-                                  (min(least, greatest - 1), greatest - 1), (least - 7, greatest), (least, greatest + 7)]:
+                                  (least, greatest + 1), (least - 1, greatest + 1), (least - 7, greatest),
+                                  (least, greatest + 7), (least + 1, max(least + 1, greatest)),
+                                  (min(least, greatest - 1), greatest - 1)]:
                     near = (low, high, jitter, poll, polls_per_bit)
                     self.assertEqual(is_safe(limit, near), told_safe(limit, near), (limit, near))
                     self.assertEqual(is_safe(limit, near), least <= low and high <= greatest)
