@@ -43,17 +43,24 @@ def frame_gaps(limit, payload):
 
 def read_gaps(limit, gaps):
     """Return the payloads that are complete when the gaps are read one by one."""
+    return [payload for _, _, payload in read_frames(limit, gaps)]
+
+
+def read_frames(limit, gaps):
+    """Return the first and the last gap, and the payload, of each frame that is complete when the gaps are read."""
     complete = []
     payload = None
+    first = 0
     before = 0
-    for gap in gaps:
+    for place, gap in enumerate(gaps):
         if gap != limit + 2:
             payload = read_on(limit, payload, gap)
         else:
             if payload is not None and 1 <= before <= limit:
                 # The last zero is the first bit of this flag.
-                complete.append(payload[:-1])
+                complete.append((first, place, payload[:-1]))
             payload = ""
+            first = place
         before = gap
     return complete
 

@@ -11,7 +11,7 @@ def read_trace(text):
     """Return the limit, the receiver, the phase and the signal of a trace."""
     rows = rows_of(text)
     if not rows:
-        raise BadTrace(len(text.split("\n")), "head is expected")
+        raise BadTrace(last_line(text), "head is expected")
     line, words = rows[0]
     limit, receiver, phase = read_head(line, words)
     signal = []
@@ -24,6 +24,11 @@ def rows_of(text):
     """Return the number, from 1 on, and the words of each line that has words."""
     rows = [(line, words_of(told)) for line, told in enumerate(text.split("\n"), start=1)]
     return [(line, words) for line, words in rows if words]
+
+
+def last_line(text):
+    """Return the number of the last line, with words or without."""
+    return len(text.split("\n"))
 
 
 def words_of(told):

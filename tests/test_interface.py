@@ -61,6 +61,21 @@ FUNCTIONS = {
         "runs_into": "limit idle", "frame_of_edge": "limit payloads idles", "untouched": "limit payloads idles edges",
         "latest_start": "limit payloads idles hop most",
     },
+    "hunt": {
+        "framed": "limit gaps", "strangers": "limit gaps", "guesses": "gaps", "best_limit": "gaps",
+        "tunings": "signal", "strays": "signal bit_time", "jitter_seen": "signal bit_time",
+        "tunings_with_jitter": "signal least greatest jitter",
+    },
+    "catalogue": {
+        "cheapest": "limit payload_most lines catalogue price",
+        "cheapest_of_limits": "payload_most lines catalogue price", "choices": "limit lines catalogue",
+        "chain_of": "limit payload_most lines catalogue numbers", "frontier": "limit payload_most lines catalogue",
+    },
+    "notation": {"read_chain": "text", "write_chain": "chain"},
+    "slips": {
+        "slips": "limit payload", "harmless": "limit payload", "lost": "limit payload",
+        "silent": "limit generator numbers", "missed": "limit generator numbers", "slips_of_two": "limit payload",
+    },
 }
 
 CLASSES = {

@@ -4,14 +4,16 @@ import unittest
 from copy import deepcopy
 
 from edgelink import (
-    bits, chains, checks, clocks, counts, design, errors, frames, receivers, relays, report, signals, streams, stuffing,
-    tolerance, traces,
+    bits, catalogue, chains, checks, clocks, counts, design, errors, frames, hunt, notation, receivers, relays, report,
+    signals, slips, streams, stuffing, tolerance, traces,
 )
 
 SAFE = (80, 85, 10, 20, 4)
 UNSAFE = (80, 86, 10, 20, 4)
 CHAIN = (2, 2, (SAFE, SAFE), (1000,))
 LATE = (2, 2, (SAFE, SAFE), (0,))
+LINES = ((80, 80, 0), (80, 81, 0))
+ENTRIES = ((20, 4, 5), (10, 8, 9), (50, 3, 0))
 
 # Each call of the interface that has landed: a function, and arguments for it.
 CALLS = [
@@ -98,7 +100,35 @@ CALLS = [
     (streams.untouched, (2, ["", "01"], (3,), [5, 1])),
     (streams.untouched, (2, ["", "01"], (3,), [])),
     (streams.latest_start, (2, ["", "01"], (3,), SAFE, 5000)),
+    (hunt.framed, (2, [4, 1, 4, 1])),
+    (hunt.framed, (2, [])),
+    (hunt.strangers, (2, [4, 1, 4, 1])),
+    (hunt.guesses, ([4, 1, 4, 5, 1, 5],)),
+    (hunt.best_limit, ([4, 1, 4, 5, 1, 5],)),
+    (hunt.best_limit, ([4, 1, 1],)),
+    (hunt.tunings, ([2000, 2320, 2400, 2720],)),
+    (hunt.tunings, ([2000],)),
+    (hunt.strays, ([2000, 2317, 2403], 80)),
+    (hunt.jitter_seen, ([2000, 2317, 2403], 80)),
+    (hunt.tunings_with_jitter, ([2000, 2317, 2403, 2720], 40, 100, 5)),
+    (catalogue.cheapest, (2, 2, LINES, ENTRIES, 3)),
+    (catalogue.cheapest, (2, 2, LINES, ENTRIES[2:], 3)),
+    (catalogue.cheapest_of_limits, (7, LINES, ENTRIES, 3)),
+    (catalogue.choices, (2, LINES, ENTRIES)),
+    (catalogue.chain_of, (2, 2, LINES, ENTRIES, [0, 1])),
+    (catalogue.frontier, (2, 2, LINES, ENTRIES)),
+    (notation.read_chain, ("chain 2 2\nhop 80 85 10 20 4",)),
+    (notation.write_chain, (CHAIN,)),
+    (slips.slips, (2, "01")),
+    (slips.harmless, (2, "01")),
+    (slips.lost, (2, "01")),
+    (slips.silent, (6, "11", [252, 128])),
+    (slips.missed, (6, "11", [252, 128])),
+    (slips.slips_of_two, (2, "01")),
 ]
+
+# The only function beside those called is_.. that tells True or False.
+TELLING = "framed"
 
 
 def kinds(value):
@@ -143,6 +173,9 @@ class UnchangedTest(unittest.TestCase):
         hops = [SAFE, UNSAFE]
         self.assertRaises(errors.Refused, chains.least_delays, 2, 2, hops)
         self.assertEqual(hops, [SAFE, UNSAFE])
+        numbers = [2, 0]
+        self.assertRaises(errors.Refused, catalogue.chain_of, 2, 2, LINES, ENTRIES, numbers)
+        self.assertEqual(numbers, [2, 0])
         polls, between = [8, 4], [0]
         self.assertRaises(errors.Refused, clocks.measured, (20, 4), 0, polls, between, 0)
         self.assertEqual((polls, between), ([8, 4], [0]))
@@ -162,6 +195,18 @@ class UnchangedTest(unittest.TestCase):
         kept = deepcopy(plays)
         plays.clear()
         self.assertEqual(chains.failure(LATE)[1], kept)
+        guess = hunt.guesses([4, 1, 4])[0]
+        guess[2].append("more")
+        self.assertEqual(hunt.guesses([4, 1, 4]), [(0, 2, [""])])
+        _, numbers, delays = catalogue.cheapest(2, 2, LINES, ENTRIES, 0)
+        numbers.append(5)
+        delays.clear()
+        self.assertEqual(catalogue.cheapest(2, 2, LINES, ENTRIES, 0), (10, [0, 0], [240]))
+        found = catalogue.choices(2, LINES, ENTRIES)
+        found[0].append(5)
+        self.assertEqual(found[1:], catalogue.choices(2, LINES, ENTRIES)[1:])
+        slips.slips(2, "")[3][2].append("more")
+        self.assertEqual(slips.slips(2, "")[3], (1, 1, ["1"]))
         misread = tolerance.misreading(2, UNSAFE)
         misread[4].append("more")
         self.assertEqual(tolerance.misreading(2, UNSAFE)[4], [])
@@ -170,7 +215,10 @@ class UnchangedTest(unittest.TestCase):
         for function, arguments in CALLS:
             found = kinds(function(*deepcopy(arguments)))
             self.assertLessEqual(found, {int, str, bool, list, tuple, type(None)}, function.__name__)
-            self.assertEqual(bool in found, function.__name__.startswith("is_"), function.__name__)
+            if function.__name__.startswith("is_"):
+                self.assertEqual(found, {bool}, function.__name__)
+            elif function.__name__ != TELLING:
+                self.assertNotIn(bool, found, function.__name__)
 
 
 if __name__ == "__main__":
