@@ -9,7 +9,7 @@ class Refused(LinkError):
     """What is asked for cannot be done; what tells why."""
 
     def __init__(self, what):
-        LinkError.__init__(self, what)
+        super().__init__(what)
         self.what = what
 
 
@@ -17,6 +17,6 @@ class BadTrace(LinkError):
     """A text has a fault in a line; lines are counted from 1."""
 
     def __init__(self, line, what):
-        LinkError.__init__(self, f"line {line}: {what}")
+        super().__init__(f"line {line}: {what}")
         self.line = line
         self.what = what

@@ -3,6 +3,7 @@
 import unittest
 from importlib import import_module
 from inspect import isclass, signature
+from pathlib import Path
 
 FUNCTIONS = {
     "bits": {"bits_of": "numbers", "bytes_of": "bits"},
@@ -76,11 +77,36 @@ FUNCTIONS = {
         "slips": "limit payload", "harmless": "limit payload", "lost": "limit payload",
         "silent": "limit generator numbers", "missed": "limit generator numbers", "slips_of_two": "limit payload",
     },
+    "diagnosis": {
+        "diagnosis": "sent received", "is_diagnosis": "sent received told", "after": "sent lost slips",
+    },
+    "monitor": {"opened": "state"},
 }
 
+# The methods of each class, with what stands behind self; each is defined in the class itself.
 CLASSES = {
-    "errors": {"LinkError": None, "Refused": "self what", "BadTrace": "self line what"},
+    "errors": {"LinkError": {}, "Refused": {"__init__": "what"}, "BadTrace": {"__init__": "line what"}},
+    "monitor": {
+        "Monitor": {
+            "__init__": "limit receiver phase", "edge_count": "", "edge": "time", "feed": "times", "undo": "",
+            "edges": "", "gaps": "", "payloads": "", "history": "", "state": "",
+        },
+    },
+    "talks": {
+        "Talk": {
+            "__init__": "window generator", "queue": "letter", "send": "", "deliver": "way", "lose": "way place",
+            "repeat": "way place", "damage": "way place first pattern", "line": "way", "taken": "", "known": "",
+            "finish": "",
+        },
+    },
+    "posts": {
+        "Post": {
+            "__init__": "window generator there back", "room": "", "queue": "letter", "send": "", "line": "way",
+            "taken": "", "known": "", "deliver": "way plays", "finish": "plays_there plays_back rounds",
+        },
+    },
 }
+
 
 
 def arguments(called):
@@ -100,12 +126,17 @@ class InterfaceTest(unittest.TestCase):
     def test_classes(self):
         for file, classes in CLASSES.items():
             module = import_module(f"edgelink.{file}")
-            for name, expected in classes.items():
+            for name, methods in classes.items():
                 found = getattr(module, name)
                 self.assertTrue(isclass(found))
                 self.assertEqual(found.__module__, module.__name__)
-                if expected is not None:
-                    self.assertEqual(arguments(vars(found)["__init__"]), expected, name)
+                for method, expected in methods.items():
+                    self.assertEqual(arguments(vars(found)[method]), f"self {expected}".strip(), f"{name} {method}")
+
+    def test_every_file_is_told(self):
+        package = import_module("edgelink")
+        files = {file.stem for file in Path(package.__file__).parent.glob("*.py")}
+        self.assertEqual(files, {"__init__", *FUNCTIONS, *CLASSES})
 
 
 if __name__ == "__main__":

@@ -15,7 +15,7 @@ LIBRARY = {
 BUILTINS = set(
     "len range enumerate zip min max sum abs sorted reversed int str bool list tuple dict set frozenset isinstance ord "
     "repr any all divmod pow iter next map Exception ValueError TypeError KeyError IndexError LookupError "
-    "ZeroDivisionError RuntimeError".split()
+    "ZeroDivisionError RuntimeError super".split()
 )
 METHODS = set(
     "append clear copy count endswith extend find get index insert isalnum isalpha isdigit islower isspace isupper "

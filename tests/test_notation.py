@@ -108,7 +108,8 @@ class FaultTest(unittest.TestCase):
 
     def test_hop_that_is_expected(self):
         for line in ("hop", "hop 80 85 10 20", "hop 80 85 10 20 4 5", "hops 80 85 10 20 4", "Hop 80 85 10 20 4",
-                     "80 85 10 20 4", "80 hop 85 10 20 4", RELAY, HEAD, "hop80 85 10 20 4 5", "hop\t80 85 10 20 4", "."):
+                     "80 85 10 20 4", "80 hop 85 10 20 4", RELAY, HEAD, "hop80 85 10 20 4 5",
+                     "hop\t80 85 10 20 4", "."):
             self.told(2, "hop is expected", HEAD, line)
             self.told(5, "hop is expected", HEAD, "", HOP, RELAY, line, RELAY)
 

@@ -4,8 +4,8 @@ import unittest
 from copy import deepcopy
 
 from edgelink import (
-    bits, catalogue, chains, checks, clocks, counts, design, errors, frames, hunt, notation, receivers, relays, report,
-    signals, slips, streams, stuffing, tolerance, traces,
+    bits, catalogue, chains, checks, clocks, counts, design, diagnosis, errors, frames, hunt, notation, receivers,
+    relays, report, signals, slips, streams, stuffing, tolerance, traces,
 )
 
 SAFE = (80, 85, 10, 20, 4)
@@ -125,6 +125,11 @@ CALLS = [
     (slips.silent, (6, "11", [252, 128])),
     (slips.missed, (6, "11", [252, 128])),
     (slips.slips_of_two, (2, "01")),
+    (diagnosis.diagnosis, ([4, 1, 2, 1, 4], [4, 5, 4])),
+    (diagnosis.diagnosis, ([4, 1, 2, 1, 4], [4, 5])),
+    (diagnosis.is_diagnosis, ([4, 1, 4], [9], (1, ((1, 2),), ()))),
+    (diagnosis.after, ([4, 1, 2, 1, 4], ((2, 3),), ((0, 1),))),
+    (diagnosis.after, ([4, 1, 4], (), ())),
 ]
 
 # The only function beside those called is_.. that tells True or False.
