@@ -158,6 +158,22 @@ class LanguageTest(unittest.TestCase):
             if isinstance(node.func, ast.Attribute):
                 self.assertIn(node.func.attr, METHODS | own, f"{path.name} {node.lineno}")
 
+    def test_l18_l26_methods_and_attributes(self):
+        own = {}
+        for _, node in nodes(ast.ClassDef):
+            methods = [part.name for part in node.body if isinstance(part, ast.FunctionDef)]
+            attributes = {part.attr for part in ast.walk(node) if isinstance(part, ast.Attribute)
+                          and isinstance(part.ctx, ast.Store) and ast.unparse(part.value) == "self"}
+            self.assertEqual(len(methods), len(set(methods)), node.name)
+            self.assertFalse(attributes & set(methods), node.name)
+            own[node.name] = attributes | {name for name in methods if not name.startswith("__")}
+        builtin = {name for kind in (str, int, list, dict, set, bytes) for name in dir(kind)}
+        for name, found in own.items():
+            self.assertFalse(found & builtin, name)
+        for path, node in nodes(ast.Attribute):
+            if ast.unparse(node.value) in own:
+                self.fail(f"{path.name} {node.lineno} reads off a class")
+
     def test_l20_is(self):
         for path, node in nodes(ast.Compare):
             for sign, right in zip(node.ops, node.comparators):
