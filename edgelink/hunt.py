@@ -47,6 +47,7 @@ def tunings(signal):
         return []
     times = distances(signal)
     found = []
+    # Without strangers the first distance is the long gap of a flag.
     for bit_time in flag_bit_times(times[0]):
         if all([time % bit_time == 0 for time in times]):
             found += tuned(bit_time, [time // bit_time for time in times])
@@ -54,15 +55,14 @@ def tunings(signal):
 
 
 def flag_bit_times(time):
-    """Return the bit times, ascending, with which a time is that of the ones of a flag, for some limit."""
-    # Without strangers the first gap is the long one of a flag.
-    longest = range(GREATEST_LIMIT + 2, LEAST_LIMIT + 1, -1)
-    return [time // bits for bits in longest if time % bits == 0]
+    """Return the bit times, ascending, with which a time is that of the long gap of a flag, for some limit."""
+    sizes = range(GREATEST_LIMIT + 2, LEAST_LIMIT + 1, -1)
+    return [time // bits for bits in sizes if time % bits == 0]
 
 
 def tuned(bit_time, gaps):
-    """Return a list of the tuning with a bit time by which a signal has these gaps, if there is one."""
-    # Without strangers the first gap is the long one of a flag.
+    """Return a list of the tuning with a bit time and these gaps, an empty one if there is none."""
+    # Without strangers the first gap is the long one of a flag, so it tells the limit.
     limit = gaps[0] - 2
     if not LEAST_LIMIT <= limit <= GREATEST_LIMIT or strangers(limit, gaps) > 0:
         return []
@@ -94,8 +94,8 @@ def tunings_with_jitter(signal, least, greatest, jitter):
 
 
 def near_bit_times(time, least, greatest):
-    """Return the bit times from least to greatest, but for those that are too short or too long for a flag."""
-    # The long gap of a flag is 4 to 9 bits, with half a bit to either side.
+    """Return the bit times from least to greatest with which a time can be that of the long gap of a flag."""
+    # It is read as so many bits up to half a bit to either side.
     shortest = 2 * time // (2 * GREATEST_LIMIT + 5)
     longest = 2 * time // (2 * LEAST_LIMIT + 3)
     return list(range(max(1, least, shortest), min(greatest, longest) + 1))

@@ -3,16 +3,13 @@
 from edgelink.checks import is_intact, pack, unpack
 from edgelink.frames import frame_gaps, read_gaps
 
-LESS = -1
-MORE = 1
-
 
 def slips(limit, payload):
     """Return the gap, the way and what comes out for all slips of the frame of a payload."""
     gaps = frame_gaps(limit, payload)
     found = []
     for gap in range(len(gaps)):
-        for way in (LESS, MORE):
+        for way in (-1, 1):
             found.append((gap, way, read_gaps(limit, changed(gaps, gap, way))))
     return found
 
@@ -62,8 +59,8 @@ def slips_of_two(limit, payload):
     gaps = frame_gaps(limit, payload)
     found = []
     for first in range(len(gaps)):
-        less = changed(gaps, first, LESS)
+        less = changed(gaps, first, -1)
         for second in range(len(gaps)):
             if second != first:
-                found.append((first, second, read_gaps(limit, changed(less, second, MORE))))
+                found.append((first, second, read_gaps(limit, changed(less, second, 1))))
     return found
